@@ -1,0 +1,68 @@
+"""The program's one entry: answers a list of calls on one workbook."""
+
+from cellsheets.areas import Area
+from cellsheets.book import Workbook
+from cellsheets.reading import Reader
+
+# Each of these takes what its call is told by from the reader, does it, and gives back the answer's numbers.
+
+
+def call_new(book, reader):
+    return book.start_anew()
+
+
+def call_sheet(book, reader):
+    return book.add_sheet(reader.take_row())
+
+
+def call_gone(book, reader):
+    return book.drop_sheet(reader.take())
+
+
+def call_set(book, reader):
+    place = reader.take_many(3)
+    return book.set_cell(place[0], place[1], place[2], reader.take_row())
+
+
+def call_insert(book, reader):
+    told = reader.take_many(6)
+    return book.insert_places(told[0], told[1], told[2], told[3], told[4], told[5])
+
+
+def call_delete(book, reader):
+    told = reader.take_many(6)
+    return book.delete_places(told[0], told[1], told[2], told[3], told[4], told[5])
+
+
+def take_area(reader):
+    told = reader.take_many(5)
+    return Area(told[0], told[1], told[2], told[3], told[4])
+
+
+def call_move(book, reader):
+    source = take_area(reader)
+    target = reader.take_many(3)
+    return book.move_area(source, target[0], target[1], target[2])
+
+
+CALLS = (call_new, call_sheet, call_gone, call_set, call_insert, call_delete, call_move)
+
+
+def answer_next(book, reader):
+    """Does the reader's next call on the book: the numbers of its answer."""
+    number = reader.take()
+    if number >= len(CALLS):
+        raise NotImplementedError("this call is not built yet")
+    call = CALLS[number]
+    return call(book, reader)
+
+
+def answers(calls):
+    book = Workbook()
+    reader = Reader(calls)
+    told = []
+    while not reader.is_at_end():
+        answer = answer_next(book, reader)
+        told.append(len(answer))
+        told.extend(answer)
+    return told
