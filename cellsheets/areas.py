@@ -18,6 +18,9 @@ class Area:
             return False
         return 0 <= self.first_column <= self.last_column <= LAST_COLUMN
 
+    def has(self, row, column):
+        return self.first_row <= row <= self.last_row and self.first_column <= column <= self.last_column
+
     def holds(self, area):
         """Whether that area lies in this one as a whole."""
         if self.sheet != area.sheet:

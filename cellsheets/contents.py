@@ -35,6 +35,12 @@ class Content:
     def is_empty(self):
         return self.kind == VALUE and self.parts[0][0] == EMPTY
 
+    def as_numbers(self):
+        numbers = [self.kind]
+        for part in self.parts:
+            numbers.extend(part)
+        return numbers
+
 
 def read_nothing(reader):
     pass
@@ -185,6 +191,5 @@ def read_content(told):
         parts = [tuple(reader.taken_since(1))]
     else:
         parts = read_formula(reader)
-    if not reader.is_at_end():
-        raise NotWellMade("a number too many")
+    reader.expect_end()
     return Content(kind, parts)

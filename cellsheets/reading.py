@@ -15,6 +15,10 @@ class Reader:
     def is_at_end(self):
         return self.position == len(self.told)
 
+    def expect_end(self):
+        if not self.is_at_end():
+            raise NotWellMade("a number too many")
+
     def take(self):
         if self.is_at_end():
             raise NotWellMade("a number too few")

@@ -1,11 +1,12 @@
-"""References: where they lead to, and how they are said anew behind a change.
+"""References: where they lead to, how they are said anew behind a change, and what a copy makes of them.
 
 A reference is a formula's part: its kind, its sheet, then of its spot, or of each of its two spots, the row's
 coordinate and the column's, two numbers each. Its formula's own cell is told as the area that has it alone.
 """
 
 from cellsheets.areas import Area
-from cellsheets.contents import FORMULA, Content
+from cellsheets.contents import FORMULA, Content, read_formula
+from cellsheets.reading import NotWellMade, Reader
 
 CELL_REFERENCE = 1
 AREA_REFERENCE = 2
@@ -17,12 +18,26 @@ FIXED = 1
 ROWS = ((), (2,), (2, 6))
 COLUMNS = ((), (4,), (4, 8))
 
-# The error that a reference to what is gone becomes.
+# The error that a reference to what is gone, or to nowhere, becomes.
 LOST = (0, 4, 3)
 
 
 def is_reference(part):
     return part[0] == CELL_REFERENCE or part[0] == AREA_REFERENCE
+
+
+def is_fixed(part):
+    return all([part[index] == FIXED for index in ROWS[part[0]] + COLUMNS[part[0]]])
+
+
+def read_fixed_reference(told):
+    """A reference that leads to the same from wherever it stands: names stand for no other."""
+    reader = Reader(told)
+    part = read_formula(reader)[0]
+    reader.expect_end()
+    if not is_reference(part) or part[1] == OWN_SHEET or not is_fixed(part):
+        raise NotWellMade("no reference of a name")
+    return part
 
 
 def places_at(part, indexes, own_place):
@@ -89,3 +104,14 @@ def content_anew(content, own, own_after, change):
     if content.kind != FORMULA:
         return content
     return Content(FORMULA, [part_anew(part, own, own_after, change) for part in content.parts])
+
+
+def part_copied(part, own, sheets):
+    return LOST if is_reference(part) and not leads_somewhere(part, own, sheets) else part
+
+
+def content_copied(content, own, sheets):
+    """The content as it is told when it is copied into the cell own: what it refers to is as far off as before."""
+    if all_lead_somewhere(content, own, sheets):
+        return content
+    return Content(FORMULA, [part_copied(part, own, sheets) for part in content.parts])

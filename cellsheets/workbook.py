@@ -45,15 +45,58 @@ def call_move(book, reader):
     return book.move_area(source, target[0], target[1], target[2])
 
 
-CALLS = (call_new, call_sheet, call_gone, call_set, call_insert, call_delete, call_move)
+def call_fill(book, reader):
+    source = take_area(reader)
+    return book.fill_area(source, take_area(reader))
+
+
+def call_clear(book, reader):
+    return book.clear_area(take_area(reader))
+
+
+def call_name(book, reader):
+    name = reader.take_row()
+    return book.set_name(name, reader.take_row())
+
+
+def call_look(book, reader):
+    place = reader.take_many(3)
+    return book.look_at(place[0], place[1], place[2])
+
+
+def call_cells(book, reader):
+    return book.list_cells(take_area(reader))
+
+
+def call_names(book, reader):
+    return book.list_names()
+
+
+def call_sheets(book, reader):
+    return book.list_sheets()
+
+
+CALLS = (
+    call_new,
+    call_sheet,
+    call_gone,
+    call_set,
+    call_insert,
+    call_delete,
+    call_move,
+    call_fill,
+    call_clear,
+    call_name,
+    call_look,
+    call_cells,
+    call_names,
+    call_sheets,
+)
 
 
 def answer_next(book, reader):
     """Does the reader's next call on the book: the numbers of its answer."""
-    number = reader.take()
-    if number >= len(CALLS):
-        raise NotImplementedError("this call is not built yet")
-    call = CALLS[number]
+    call = CALLS[reader.take()]
     return call(book, reader)
 
 

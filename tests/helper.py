@@ -9,9 +9,22 @@ from cellsheets.workbook import answer_next
 ROWS = 0
 COLUMNS = 1
 
+LAST_ROW = 4095
+LAST_COLUMN = 255
+
+MOST = 4294967295
+
+# First and last row, first and last column.
+AREAS_THAT_ARE_NONE = (
+    (0, 4096, 0, 0), (4096, 4096, 0, 0), (0, 0, 0, 256), (0, 0, 256, 256), (1, 0, 0, 0), (0, 0, 1, 0),
+    (4095, 4094, 0, 0), (0, 0, 255, 254), (MOST, MOST, 0, 0), (0, 0, MOST, MOST), (0, MOST, 0, MOST), (MOST, 0, 0, 0),
+)
+
 LOST = [0, 4, 3]
 
 NEW = [0]
+NAMES = [12]
+SHEETS = [13]
 
 
 def sheet(title):
@@ -37,6 +50,27 @@ def delete(number, way, a, n, lo, hi):
 
 def move(number, first_row, last_row, first_column, last_column, to_sheet, to_row, to_column):
     return [6, number, first_row, last_row, first_column, last_column, to_sheet, to_row, to_column]
+
+
+def fill(number, first_row, last_row, first_column, last_column, to_sheet, *target):
+    return [7, number, first_row, last_row, first_column, last_column, to_sheet] + list(target)
+
+
+def clear(number, first_row, last_row, first_column, last_column):
+    return [8, number, first_row, last_row, first_column, last_column]
+
+
+def define(letters, reference):
+    """The call name; without a reference it takes the name away."""
+    return [9] + name(letters) + [len(reference)] + reference
+
+
+def look(number, row, column):
+    return [10, number, row, column]
+
+
+def cells(number, first_row, last_row, first_column, last_column):
+    return [11, number, first_row, last_row, first_column, last_column]
 
 
 def number(z):
@@ -84,26 +118,66 @@ def perform(book, calls):
     return told
 
 
-def numbers_of(content):
-    return [content.kind] + flat(content.parts)
+def answer_of(book, call):
+    return perform(book, [call])[0]
+
+
+def titles_of(book):
+    """Of each sheet its number and its title, in the order in which they are told."""
+    told = answer_of(book, SHEETS)
+    many, rest = told[0], told[1:]
+    found = []
+    while rest:
+        found.append((rest[0], rest[2:2 + rest[1]]))
+        rest = rest[2 + rest[1]:]
+    assert many == len(found), told
+    return found
+
+
+def names_of(book):
+    """Of each name itself and its reference, in the order in which they are told."""
+    told = answer_of(book, NAMES)
+    many, rest = told[0], told[1:]
+    lengths = {0: 3, 1: 6, 2: 10}
+    found = []
+    while rest:
+        letters = bytes(rest[1:1 + rest[0]]).decode()
+        rest = rest[1 + rest[0]:]
+        found.append((letters, rest[:lengths[rest[0]]]))
+        rest = rest[lengths[rest[0]]:]
+    assert many == len(found), told
+    return found
+
+
+def spots_of(book, at_sheet, first_row=0, last_row=LAST_ROW):
+    """Row and column of each cell of the sheet that has something; by halves, as no more than 1024 are told."""
+    told = answer_of(book, cells(at_sheet, first_row, last_row, 0, LAST_COLUMN))
+    if told[0] > 1024:
+        middle = (first_row + last_row) // 2
+        return spots_of(book, at_sheet, first_row, middle) + spots_of(book, at_sheet, middle + 1, last_row)
+    spots = list(zip(told[1::2], told[2::2]))
+    assert told[0] == len(spots), told
+    return spots
+
+
+def content_at(book, at_sheet, row, column):
+    """The content that stands there, or None."""
+    told = answer_of(book, look(at_sheet, row, column))
+    assert told[0] == 1 or told == [0], told
+    return told[1:] or None
 
 
 def standing(book):
     """All contents, by sheet, row and column."""
     found = {}
-    for at_sheet, contents in book.cells.items():
-        for spot, content in contents.items():
-            found[(at_sheet,) + spot] = numbers_of(content)
+    for at_sheet, title in titles_of(book):
+        for row, column in spots_of(book, at_sheet):
+            found[(at_sheet, row, column)] = content_at(book, at_sheet, row, column)
     return found
 
 
-def names_of(book):
-    return [(told, list(reference)) for told, reference in book.names.items()]
-
-
 def all_of(book):
-    titles = {at: list(title) for at, title in book.titles.items()}
-    return titles, sorted(book.cells), standing(book), names_of(book)
+    return titles_of(book), standing(book), names_of(book)
 
 
 class BookCase(unittest.TestCase):
@@ -123,10 +197,14 @@ class BookCase(unittest.TestCase):
         self.assertEqual(all_of(self.book), before, call)
 
     def assert_stands(self, at_sheet, row, column, content):
-        self.assertEqual(standing(self.book).get((at_sheet, row, column)), content)
+        self.assertEqual(content_at(self.book, at_sheet, row, column), content)
 
     def assert_formula(self, at_sheet, row, column, expected):
         self.assert_stands(at_sheet, row, column, [1] + expected)
 
     def assert_all(self, expected):
         self.assertEqual(standing(self.book), expected)
+
+    def assert_names(self, expected):
+        """Names and references, in their order."""
+        self.assertEqual(names_of(self.book), expected)

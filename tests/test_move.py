@@ -3,7 +3,7 @@
 import unittest
 
 from tests.helper import (
-    BookCase, LOST, fixed, formula, gone, move, number, off, perform, put, standing, to_area, to_cell,
+    BookCase, LOST, define, fixed, formula, gone, move, number, off, perform, put, standing, to_area, to_cell,
 )
 
 
@@ -252,13 +252,10 @@ class Names(BookCase):
         after = [
             to_cell(2, fixed(21, 31)), to_area(2, fixed(23, 30), fixed(20, 33)), LOST, LOST, told[4], told[5],
         ]
-        for at, reference in enumerate(told):
-            self.book.names[(90 - at,)] = tuple(reference)
+        for letter, reference in zip("ZYXWVU", told):
+            self.done(define(letter, reference))
         self.done(move(0, 5, 8, 5, 8, 1, 20, 30))
-        self.assertEqual(
-            list(self.book.names.items()),
-            [((90 - at,), tuple(reference)) for at, reference in enumerate(after)],
-        )
+        self.assert_names(list(zip("ZYXWVU", after)))
 
 
 if __name__ == "__main__":

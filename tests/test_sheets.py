@@ -3,15 +3,15 @@
 import unittest
 
 from tests.helper import (
-    BookCase, LOST, NEW, all_of, fixed, formula, gone, number, off, perform, put, sheet, standing, to_area, to_cell,
+    BookCase, LOST, NEW, all_of, define, fixed, formula, gone, number, off, perform, put, sheet, standing, to_area,
+    to_cell,
 )
 from cellsheets.book import Workbook
 
 
 class New(BookCase):
     def test_all_is_as_at_first(self):
-        self.done(put(0, 0, 0, number(1)))
-        self.book.names[(65,)] = (1, 1, 1, 0, 1, 0)
+        self.done(put(0, 0, 0, number(1)), define("A", to_cell(1, fixed(0, 0))))
         self.assertEqual(perform(self.book, [NEW]), [[0]])
         self.assertEqual(all_of(self.book), all_of(Workbook()))
 
@@ -112,14 +112,12 @@ class Gone(BookCase):
         self.assert_formula(0, 0, 0, LOST)
 
     def test_names_of_it_are_errors(self):
-        self.book.names[(66,)] = (1, 2, 1, 3, 1, 4)
-        self.book.names[(65,)] = (2, 2, 1, 3, 1, 4, 1, 0, 1, 0)
-        self.book.names[(67,)] = (2, 3, 1, 3, 1, 4, 1, 0, 1, 0)
-        self.done(gone(1))
-        self.assertEqual(
-            list(self.book.names.items()),
-            [((66,), (0, 4, 3)), ((65,), (0, 4, 3)), ((67,), (2, 3, 1, 3, 1, 4, 1, 0, 1, 0))],
+        other = to_area(3, fixed(3, 4), fixed(0, 0))
+        self.done(
+            define("B", to_cell(2, fixed(3, 4))), define("A", to_area(2, fixed(3, 4), fixed(0, 0))), define("C", other),
+            gone(1),
         )
+        self.assert_names([("B", LOST), ("A", LOST), ("C", other)])
 
 
 if __name__ == "__main__":

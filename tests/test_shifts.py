@@ -3,8 +3,8 @@
 import unittest
 
 from tests.helper import (
-    BookCase, COLUMNS, LOST, ROWS, delete, fixed, formula, gone, insert, name, number, off, perform, put, to_area,
-    to_cell,
+    BookCase, COLUMNS, LOST, ROWS, define, delete, fixed, formula, gone, insert, name, number, off, perform, put,
+    to_area, to_cell,
 )
 
 LAST = (4095, 255)
@@ -390,23 +390,17 @@ class Names(ShiftCase):
             cell = to_cell(1, self.spot(way, 12, 5))
             area = to_area(1, self.spot(way, 14, 7), self.spot(way, 3, 4))
             other = to_cell(2, self.spot(way, 12, 5))
-            self.book.names[(67,)] = tuple(cell)
-            self.book.names[(65,)] = tuple(area)
-            self.book.names[(66,)] = tuple(other)
-            self.done(insert(0, way, 10, 3, 2, 9))
-            expected = [
-                ((67,), tuple(to_cell(1, self.spot(way, 15, 5)))),
-                ((65,), tuple(to_area(1, self.spot(way, 17, 7), self.spot(way, 3, 4)))),
-                ((66,), tuple(other)),
-            ]
-            self.assertEqual(list(self.book.names.items()), expected)
+            self.done(define("C", cell), define("A", area), define("B", other), insert(0, way, 10, 3, 2, 9))
+            self.assert_names([
+                ("C", to_cell(1, self.spot(way, 15, 5))),
+                ("A", to_area(1, self.spot(way, 17, 7), self.spot(way, 3, 4))),
+                ("B", other),
+            ])
             self.done(delete(0, way, 15, 9, 0, LAST[1 - way]))
-            expected[0] = ((67,), (0, 4, 3))
-            expected[1] = ((65,), tuple(to_area(1, self.spot(way, 14, 7), self.spot(way, 3, 4))))
-            self.assertEqual(list(self.book.names.items()), expected)
+            area_then = to_area(1, self.spot(way, 14, 7), self.spot(way, 3, 4))
+            self.assert_names([("C", LOST), ("A", area_then), ("B", other)])
             self.done(delete(0, way, 0, 30, 0, LAST[1 - way]))
-            expected[1] = ((65,), (0, 4, 3))
-            self.assertEqual(list(self.book.names.items()), expected)
+            self.assert_names([("C", LOST), ("A", LOST), ("B", other)])
 
 
 if __name__ == "__main__":
